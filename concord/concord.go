@@ -7,6 +7,7 @@ import (
 	"concord/api"
 	"concord/disk"
 	"concord/files"
+	"concord/step"
 )
 
 // Store is two sides of files, and what they agreed on, on a disk. All of them lie on the disk and nowhere else.
@@ -40,7 +41,7 @@ func holding(bytes string) *Store {
 
 // isSound tells whether the disk is one that calls on a new store can have made, as far as its files show it.
 func (s *Store) isSound() bool {
-	return files.Sound(s.disk) && countPaths(files.All(s.disk)) <= api.MaxPaths
+	return files.Sound(s.disk) && countPaths(files.All(s.disk)) <= api.MaxPaths && step.Sound(s.disk)
 }
 
 func isSize(sectors int) bool {
@@ -148,10 +149,25 @@ func (s *Store) List(side int) ([]string, api.Errno) {
 
 // Sync brings both sides into step (P9, P10).
 func (s *Store) Sync() (api.Report, api.Errno) {
-	if s.isDown() {
-		return api.Report{}, api.ErrDown
+	if e := s.mayChange(); e != api.OK {
+		return api.Report{}, e
 	}
-	return api.Report{}, api.OK
+	steps, conflicts := step.Find(s.disk)
+	if e := s.do(steps); e != api.OK {
+		return api.Report{}, e
+	}
+	return api.Report{Steps: len(steps), Conflicts: conflicts}, api.OK
+}
+
+// do does nothing at all if there are no steps: no journal either.
+func (s *Store) do(steps []step.Step) api.Errno {
+	if len(steps) == 0 {
+		return api.OK
+	}
+	if e := step.Begin(s.disk, steps); e != api.OK {
+		return e
+	}
+	return step.End(s.disk)
 }
 
 // Recover ends a Sync that was begun (P11).
@@ -159,7 +175,10 @@ func (s *Store) Recover() api.Errno {
 	if s.isDown() {
 		return api.ErrDown
 	}
-	return api.OK
+	if !step.Pending(s.disk) {
+		return api.OK
+	}
+	return step.End(s.disk)
 }
 
 // hasNoDisk is true too of a Store that neither New nor Open made, so that no call trips over it.
@@ -167,21 +186,15 @@ func (s *Store) hasNoDisk() bool { return s == nil || s.disk == nil }
 
 func (s *Store) isDown() bool { return s.hasNoDisk() || s.disk.Failed() }
 
-// mayChange tells why no file may be put or removed now, or OK.
+// mayChange tells why the files may not be changed now, or OK.
 func (s *Store) mayChange() api.Errno {
 	if s.isDown() {
 		return api.ErrDown
 	}
-	if s.isPending() {
+	if step.Pending(s.disk) {
 		return api.ErrPending
 	}
 	return api.OK
-}
-
-// isPending: a Sync has its journal on the disk from its beginning to its end.
-func (s *Store) isPending() bool {
-	_, found := files.Find(s.disk, files.Name{Set: files.Journal})
-	return found
 }
 
 func isSide(side int) bool { return side == api.Left || side == api.Right }

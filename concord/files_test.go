@@ -128,27 +128,6 @@ func TestNoMorePathsThanMayBe(t *testing.T) {
 	check(t, "P7: a path was removed from both sides", s.Put(api.Left, "h", "x"), api.OK)
 }
 
-func TestAPendingSyncHasToBeEndedFirst(t *testing.T) {
-	all := []files.File{file(files.Journal, "", "")}
-	for _, path := range strings.Split("abcdefg", "") {
-		all = append(all, file(api.Left, path, path))
-	}
-	s := holding(t, 200, all...)
-	bytes := s.Bytes()
-	check(t, "P7: Put", s.Put(api.Left, "a", "y"), api.ErrPending)
-	check(t, "P7: Put of an eighth path", s.Put(api.Left, "h", "y"), api.ErrPending)
-	check(t, "P7: Remove", s.Remove(api.Left, "a"), api.ErrPending)
-	check(t, "P7: Remove of nothing", s.Remove(api.Left, "h"), api.ErrPending)
-	check(t, "P7: Put of no path", s.Put(api.Left, "", "y"), api.ErrArg)
-	check(t, "P7: Remove of no path", s.Remove(api.Left, ""), api.ErrArg)
-	if s.Bytes() != bytes || s.Acts() != 0 {
-		t.Error("P7: an error has changed the disk")
-	}
-	if content, e := s.Get(api.Left, "a"); content != "a" || e != api.OK {
-		t.Errorf("P8: %q, %d", content, e)
-	}
-}
-
 func TestAStoreWithoutADisk(t *testing.T) {
 	var none *concord.Store
 	for what, s := range map[string]*concord.Store{"nil": none, "zero": {}} {

@@ -132,6 +132,11 @@ func Remove(d *disk.Disk, name Name) api.Errno {
 	return mark(d, noSlot, slot)
 }
 
+// Free tells how many slots hold no file. Each file that is put needs one, and the older one of its name frees one then.
+func Free(d *disk.Disk) int {
+	return slotCount(d.Sectors()) - len(takenSlots(d))
+}
+
 func slotOf(d *disk.Disk, name Name) int {
 	for _, slot := range takenSlots(d) {
 		if decode(readRecord(d, slot)).Name == name {

@@ -92,6 +92,21 @@ func TestAFullDiskIsLeftAsItIs(t *testing.T) {
 	put(t, d, file(api.Left, "a", "y"))
 }
 
+func TestFreeCountsTheSlotsWithoutAFile(t *testing.T) {
+	for _, row := range []struct{ sectors, want int }{{16, 7}, {17, 8}, {100, 49}, {109, 54}, {400, 54}} {
+		d := empty(row.sectors)
+		if files.Free(d) != row.want {
+			t.Errorf("P12: %d free slots on %d sectors", files.Free(d), row.sectors)
+		}
+		put(t, d, file(api.Left, "a", "x"))
+		put(t, d, file(api.Left, "a", "y"))
+		put(t, d, file(files.Journal, "", ""))
+		if files.Free(d) != row.want-2 {
+			t.Errorf("P12: %d free slots on %d sectors, behind two files", files.Free(d), row.sectors)
+		}
+	}
+}
+
 func TestAChangedRootOrRecordIsNotSound(t *testing.T) {
 	d := empty(20)
 	put(t, d, file(api.Left, "abcdefgh", ""))
