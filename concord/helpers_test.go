@@ -35,16 +35,24 @@ func open(t *testing.T, bytes string) *concord.Store {
 	return s
 }
 
-// holding makes a store with files in any set, those that no call can put there too.
-func holding(t *testing.T, sectors int, all ...files.File) *concord.Store {
-	t.Helper()
+// laid tells the bytes of a disk with files in any set, those that no call can put there too.
+func laid(sectors int, all []files.File) (string, api.Errno) {
 	d := disk.Holding(files.Empty(sectors))
 	for _, f := range all {
 		if e := files.Put(d, f); e != api.OK {
-			t.Fatalf("no room for %v: %d", f, e)
+			return "", e
 		}
 	}
-	return open(t, d.Bytes())
+	return d.Bytes(), api.OK
+}
+
+func holding(t *testing.T, sectors int, all ...files.File) *concord.Store {
+	t.Helper()
+	bytes, e := laid(sectors, all)
+	if e != api.OK {
+		t.Fatalf("no room for %d files: %d", len(all), e)
+	}
+	return open(t, bytes)
 }
 
 func file(set int, path string, content string) files.File {

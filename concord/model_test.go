@@ -146,7 +146,10 @@ func answer(report api.Report, e api.Errno) string {
 	return fmt.Sprintf("%d: %d steps, conflicts %q", e, report.Steps, report.Conflicts)
 }
 
-var down = answer(api.Report{}, api.ErrDown)
+var (
+	down   = answer(api.Report{}, api.ErrDown)
+	noRoom = answer(api.Report{}, api.ErrSpace)
+)
 
 func (c call) onModel(m model) string {
 	switch c.kind {
@@ -217,11 +220,22 @@ func TestCallsAgainstAModel(t *testing.T) {
 
 // The disk fails again and again, and each time a store is opened on its bytes.
 func TestFailuresAgainstAModel(t *testing.T) {
-	r := rand.New(rand.NewSource(1))
+	for seed, sectors := range []int{108, 60, 36, 28, 20, api.MinSectors} {
+		failures, recoveries := failAgainAndAgain(t, sectors, rand.New(rand.NewSource(int64(seed))))
+		if failures < 100 || recoveries < 10 {
+			t.Errorf("%d sectors: only %d failures, %d of them with a Sync pending", sectors, failures, recoveries)
+		}
+	}
+}
+
+// failAgainAndAgain tells how often the disk failed, and how often a Sync was pending then. A disk without room is left for a
+// new one, since hardly anything happens on a full one.
+func failAgainAndAgain(t *testing.T, sectors int, r *rand.Rand) (int, int) {
+	t.Helper()
 	m := emptyModel()
-	s := begin(t, 108)
+	s := begin(t, sectors)
 	failures, recoveries := 0, 0
-	for range 3000 {
+	for range 2000 {
 		if r.Intn(3) == 0 {
 			check(t, "P6: Fail", s.Fail(r.Intn(40), r.Intn(16)-1), api.OK)
 		}
@@ -230,12 +244,19 @@ func TestFailuresAgainstAModel(t *testing.T) {
 		switch got := c.onStore(s); got {
 		case want:
 			m = next
+		case noRoom:
+			if max(m.count(), next.count()) <= (sectors-24)/4 {
+				t.Fatalf("P12: no room for %d files on %d sectors", next.count(), sectors)
+			}
+			checkState(t, "P7, P9: ErrSpace", s, m.state())
+			m, s = emptyModel(), begin(t, sectors)
 		case down:
 			failures++
 			s = reopen(t, s)
 			if isPending(t, s) {
 				recoveries++
 				s = recovered(t, s, r)
+				checkState(t, "P11", s, next.state())
 			}
 			if state(t, s) == next.state() {
 				m = next
@@ -243,17 +264,15 @@ func TestFailuresAgainstAModel(t *testing.T) {
 		default:
 			t.Fatalf("P7, P9: %s, want %s", got, want)
 		}
-		checkState(t, "P7, P10", s, m.state())
+		checkState(t, "P7, P9, P10", s, m.state())
 	}
-	if failures < 100 || recoveries < 10 {
-		t.Errorf("only %d failures, %d of them with a Sync pending", failures, recoveries)
-	}
+	return failures, recoveries
 }
 
 // recovered recovers a store, on a disk that may fail in that again and again.
 func recovered(t *testing.T, s *concord.Store, r *rand.Rand) *concord.Store {
 	t.Helper()
-	for {
+	for range 1000 {
 		check(t, "P6: Fail", s.Fail(r.Intn(30), r.Intn(16)), api.OK)
 		switch e := s.Recover(); e {
 		case api.OK:
@@ -264,4 +283,6 @@ func recovered(t *testing.T, s *concord.Store, r *rand.Rand) *concord.Store {
 			t.Fatalf("P11: Recover: %d", e)
 		}
 	}
+	t.Fatal("P11: Recover never comes to its end")
+	return nil
 }

@@ -24,16 +24,6 @@ func sync(t *testing.T, s *concord.Store, steps int, conflicts ...string) {
 	}
 }
 
-// isPending asks by a call that changes nothing, whatever it answers.
-func isPending(t *testing.T, s *concord.Store) bool {
-	t.Helper()
-	e := s.Remove(api.Left, "nosuch")
-	if e != api.ErrPending && e != api.ErrNone {
-		t.Fatalf("P7: Remove of nothing: %d", e)
-	}
-	return e == api.ErrPending
-}
-
 // many is a model with each case of "In step", the longest contents and seven paths.
 func many() model {
 	return model{
@@ -41,21 +31,6 @@ func many() model {
 		{"a": "old", "b": longest[1:], "c": longest, "d": "same", "f": "right", "g": "agreed"},
 		{"a": "old", "b": longest[1:], "c": longest, "e": "gone", "f": "older", "g": "agreed"},
 	}
-}
-
-// pending is a store on which a Sync of many was begun and not ended.
-func pending(t *testing.T) *concord.Store {
-	t.Helper()
-	s := holding(t, 200, many().files()...)
-	check(t, "P6: Fail", s.Fail(15, 0), api.OK)
-	if _, e := s.Sync(); e != api.ErrDown {
-		t.Fatalf("P6: Sync on a disk that fails: %d", e)
-	}
-	x := reopen(t, s)
-	if !isPending(t, x) {
-		t.Fatal("P4: nothing is pending behind a Sync that was cut off")
-	}
-	return x
 }
 
 func TestTheExamplesOfSync(t *testing.T) {
@@ -196,61 +171,6 @@ func TestSyncAndRecoverOfAFailedDisk(t *testing.T) {
 	sync(t, x, 1)
 }
 
-// A disk that has failed while a Sync was pending answers ErrDown, which is named first.
-func TestAPendingSyncHasToBeEndedFirst(t *testing.T) {
-	s := pending(t)
-	bytes := s.Bytes()
-	check(t, "P7: Put", s.Put(api.Left, "a", "y"), api.ErrPending)
-	check(t, "P7: Put of an eighth path", s.Put(api.Left, "h", "y"), api.ErrPending)
-	check(t, "P7: Remove", s.Remove(api.Left, "a"), api.ErrPending)
-	check(t, "P7: Remove of nothing", s.Remove(api.Left, "h"), api.ErrPending)
-	check(t, "P7: Put of no path", s.Put(api.Left, "", "y"), api.ErrArg)
-	check(t, "P7: Remove of no path", s.Remove(api.Left, ""), api.ErrArg)
-	checkAnswer(t, "P9: Sync", answer(s.Sync()), answer(api.Report{}, api.ErrPending))
-	if s.Bytes() != bytes || s.Acts() != 0 {
-		t.Error("P7, P9: an error has changed the disk")
-	}
-	if content, e := s.Get(api.Left, "a"); content != "new" || e != api.OK {
-		t.Errorf("P8: %q, %d", content, e)
-	}
-	check(t, "P6: Fail", s.Fail(0, 0), api.OK)
-	check(t, "P11: Recover", s.Recover(), api.ErrDown)
-	checkAnswer(t, "P9: Sync", answer(s.Sync()), down)
-	x := reopen(t, s)
-	check(t, "P11: Recover", x.Recover(), api.OK)
-	m := many()
-	m.sync()
-	checkState(t, "P11", x, m.state())
-	put(t, x, api.Left, "a", "y")
-	sync(t, x, 1, "f")
-}
-
-func TestRecoverWhereNothingIsPending(t *testing.T) {
-	for _, sectors := range []int{api.MinSectors, 24, 100, api.MaxSectors} {
-		s := begin(t, sectors)
-		check(t, "P11: Recover of a new store", s.Recover(), api.OK)
-		put(t, s, api.Left, "a", "x")
-		acts, bytes := s.Acts(), s.Bytes()
-		check(t, "P11: Recover", s.Recover(), api.OK)
-		sync(t, reopen(t, s), 1)
-		check(t, "P6: Fail", s.Fail(0, 0), api.OK)
-		check(t, "P11: Recover without an act", s.Recover(), api.OK)
-		if s.Acts() != acts || s.Bytes() != bytes {
-			t.Errorf("P11: Recover has done %d acts", s.Acts()-acts)
-		}
-		check(t, "P6: Put", s.Put(api.Left, "a", "y"), api.ErrDown)
-		check(t, "P11: Recover of a failed disk", s.Recover(), api.ErrDown)
-		x := reopen(t, s)
-		check(t, "P11: Recover of a store that was opened", x.Recover(), api.OK)
-		sync(t, x, 1)
-		acts = x.Acts()
-		check(t, "P11: Recover behind a Sync", x.Recover(), api.OK)
-		if x.Acts() != acts {
-			t.Errorf("P11: Recover behind a Sync has done %d acts", x.Acts()-acts)
-		}
-	}
-}
-
 // cutOff is many on a disk that fails after so many acts of a Sync.
 func cutOff(t *testing.T, after int, keep int) *concord.Store {
 	t.Helper()
@@ -261,73 +181,6 @@ func cutOff(t *testing.T, after int, keep int) *concord.Store {
 		t.Errorf("P6: %d acts, want %d", s.Acts(), after)
 	}
 	return s
-}
-
-func TestADiskThatFailsAtEachActOfASync(t *testing.T) {
-	s := holding(t, 200, many().files()...)
-	sync(t, s, 5, "f")
-	end := many()
-	end.sync()
-	begun := false
-	for after := range s.Acts() {
-		for keep := range 8 {
-			what := fmt.Sprintf("after %d acts, keeping %b", after, keep)
-			x := reopen(t, cutOff(t, after, keep))
-			checkWhole(t, what, x, many(), end)
-			if !isPending(t, x) {
-				if got := state(t, x); got != many().state() && got != end.state() {
-					t.Errorf("P10: %s: done in part, and not pending:\n%s", what, got)
-				}
-				continue
-			}
-			begun = true
-			check(t, "P11: Recover "+what, x.Recover(), api.OK)
-			checkState(t, "P11: "+what, reopen(t, x), end.state())
-			if isPending(t, x) {
-				t.Errorf("P11: %s: still pending", what)
-			}
-		}
-	}
-	if !begun {
-		t.Error("P10: no Sync was ever pending")
-	}
-}
-
-// checkWhole wants each file of each set as it was, or as it would be.
-func checkWhole(t *testing.T, what string, s *concord.Store, start model, end model) {
-	t.Helper()
-	for set := range start {
-		for _, path := range start.paths() {
-			content, e := s.Get(set, path)
-			got := has{e == api.OK, content}
-			if got != start.get(set, path) && got != end.get(set, path) {
-				t.Errorf("P10: %s: set %d, path %s: %v", what, set, path, got)
-			}
-		}
-	}
-}
-
-func TestADiskThatFailsAtEachActOfARecover(t *testing.T) {
-	start := pending(t).Bytes()
-	s := open(t, start)
-	check(t, "P11: Recover", s.Recover(), api.OK)
-	end := many()
-	end.sync()
-	for after := range s.Acts() {
-		for keep := range 8 {
-			what := fmt.Sprintf("Recover, after %d acts, keeping %b", after, keep)
-			x := open(t, start)
-			check(t, "P6: Fail", x.Fail(after, keep), api.OK)
-			check(t, "P6: "+what, x.Recover(), api.ErrDown)
-			x = reopen(t, x)
-			checkWhole(t, what, x, many(), end)
-			if !isPending(t, x) {
-				checkState(t, "P10: "+what, x, end.state())
-			}
-			check(t, "P11: again: "+what, x.Recover(), api.OK)
-			checkState(t, "P11: again: "+what, x, end.state())
-		}
-	}
 }
 
 func TestTheLastActOfASyncIsAFlush(t *testing.T) {
